@@ -1,0 +1,1 @@
+"""A spider and a fly on a box: shortest ways over its faces, in whole numbers."""
