@@ -7,9 +7,7 @@ LONGEST = 40
 BEGINS = 0
 SPIDER = 1
 FLY = 2
-WAY = 3
 OVER = 4
-MANY = 5
 
 
 class Box:
@@ -83,14 +81,8 @@ def answer_many(box, nothing):
     return [len(squares), 1, squares.count(min(squares))]
 
 
-ANSWERERS = {
-    BEGINS: answer_begins,
-    SPIDER: answer_spider,
-    FLY: answer_fly,
-    WAY: answer_way,
-    OVER: answer_over,
-    MANY: answer_many,
-}
+# Each stands at its call's number.
+ANSWERERS = (answer_begins, answer_spider, answer_fly, answer_way, answer_over, answer_many)
 
 
 def numbers_from(calls, place):
