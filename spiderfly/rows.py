@@ -26,6 +26,16 @@ class Edge:
         self.high = high
 
 
+class LaidRow:
+    """A row of faces in the plane: the scales of its first face and its last, and the edges that it crosses."""
+
+    def __init__(self, row, first, last, edges):
+        self.row = row
+        self.first = first
+        self.last = last
+        self.edges = edges
+
+
 def axis_of(face):
     return face // 2
 
@@ -48,6 +58,17 @@ def faces_at(lengths, point):
     return [face for face in range(FACES) if point[axis_of(face)] == height_of(lengths, face)]
 
 
+def points_on(lengths):
+    """The points on the box with whole coordinates; the first coordinate that differs is less in the one before."""
+    points = []
+    for x in range(lengths[0] + 1):
+        for y in range(lengths[1] + 1):
+            for z in range(lengths[2] + 1):
+                if len(faces_at(lengths, [x, y, z])) > 0:
+                    points.append([x, y, z])
+    return points
+
+
 def can_follow(row, face):
     return face not in row and axis_of(face) != axis_of(row[-1])
 
@@ -59,25 +80,6 @@ def is_row(faces):
         if not can_follow(faces[:k], faces[k]):
             return False
     return True
-
-
-def rows_beginning(row):
-    """The row and all rows that go on from it, in the order of rows."""
-    rows = [row]
-    for face in range(FACES):
-        if can_follow(row, face):
-            rows.extend(rows_beginning(row + [face]))
-    return rows
-
-
-def rows_joining(first_faces, last_faces):
-    """The rows from one of the first faces to one of the last, in the order of rows if the first ones rise."""
-    rows = []
-    for face in first_faces:
-        for row in rows_beginning([face]):
-            if row[-1] in last_faces:
-                rows.append(row)
-    return rows
 
 
 def first_scales(face):
@@ -111,6 +113,42 @@ def scales_beyond(lengths, scales, face, following):
     return beyond
 
 
+def laid_alone(face):
+    scales = first_scales(face)
+    return LaidRow([face], scales, scales, [])
+
+
+def laid_on(lengths, laid, face):
+    """The laid row with one more face behind it."""
+    edge = edge_towards(lengths, laid.last, face)
+    scales = scales_beyond(lengths, laid.last, laid.row[-1], face)
+    return LaidRow(laid.row + [face], laid.first, scales, laid.edges + [edge])
+
+
+def lay(lengths, row):
+    laid = laid_alone(row[0])
+    for face in row[1:]:
+        laid = laid_on(lengths, laid, face)
+    return laid
+
+
+def laid_beginning(lengths, laid):
+    """The laid row and all rows that go on from it, in the order of rows."""
+    found = [laid]
+    for face in range(FACES):
+        if can_follow(laid.row, face):
+            found.extend(laid_beginning(lengths, laid_on(lengths, laid, face)))
+    return found
+
+
+def laid_from(lengths, faces):
+    """All rows that begin with one of the faces, laid, in the order of rows if the faces rise."""
+    found = []
+    for face in faces:
+        found.extend(laid_beginning(lengths, laid_alone(face)))
+    return found
+
+
 def spot_of(scales, point):
     """Where a point of a laid face lies in the plane."""
     return [scale.place(point[scale.axis]) for scale in scales]
@@ -135,20 +173,29 @@ def goes_through(begin, finish, edge):
     return edge.low * run <= met and met <= edge.high * run
 
 
-def square_between(begin, finish):
+def square_over(laid, start, end):
+    """The square of the line between two points, as they lie on the first face and the last of a laid row."""
+    begin = spot_of(laid.first, start)
+    finish = spot_of(laid.last, end)
     return (finish[0] - begin[0]) ** 2 + (finish[1] - begin[1]) ** 2
 
 
-def straight_square(lengths, row, start, end):
-    """The square of the straight way over a row that joins the points, None if there's none."""
-    scales = first_scales(row[0])
-    begin = spot_of(scales, start)
-    edges = []
-    for k in range(1, len(row)):
-        edges.append(edge_towards(lengths, scales, row[k]))
-        scales = scales_beyond(lengths, scales, row[k - 1], row[k])
-    finish = spot_of(scales, end)
-    for edge in edges:
+def is_straight_way(laid, start, end):
+    """Whether that line goes through all edges of the laid row."""
+    begin = spot_of(laid.first, start)
+    finish = spot_of(laid.last, end)
+    for edge in laid.edges:
         if not goes_through(begin, finish, edge):
-            return None
-    return square_between(begin, finish)
+            return False
+    return True
+
+
+def shortest_square(laid_rows, start, end):
+    """The square of the shortest way over the laid rows, all of which join the points."""
+    shortest = None
+    for laid in laid_rows:
+        square = square_over(laid, start, end)
+        # Most lines are too long to matter: what they go through is looked at last.
+        if (shortest is None or square < shortest) and is_straight_way(laid, start, end):
+            shortest = square
+    return shortest

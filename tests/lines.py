@@ -6,6 +6,10 @@ MOST = 4294967295
 
 WAY = [3]
 MANY = [5]
+STRAIGHT = [6]
+FARTHEST = [7]
+FACES = [9]
+STATE = [10]
 
 
 def begins(*lengths):
@@ -22,6 +26,10 @@ def fly(*point):
 
 def over(*faces):
     return [4, len(faces), *faces]
+
+
+def within(square):
+    return [8, square]
 
 
 def asked(*calls):
